@@ -4,6 +4,7 @@ import (
 	"slices"
 
 	"middling/api"
+	"middling/lists"
 )
 
 // Put returns the room with a match more (P1.7).
@@ -15,7 +16,7 @@ func Put(r api.Room, x api.Match) (api.Room, api.Errno) {
 		return api.Room{}, api.ErrFull
 	}
 	y := copied(r)
-	y.Matches = insert(y.Matches, x, func(m api.Match) bool { return m.Number >= x.Number })
+	y.Matches = lists.Put(r.Matches, x, number)
 	if Check(y) != api.OK {
 		return api.Room{}, api.ErrMatch
 	}
@@ -27,15 +28,12 @@ func Strike(r api.Room, numbers []int) (api.Room, api.Errno) {
 	if e := Check(r); e != api.OK {
 		return api.Room{}, e
 	}
-	if !rising(numbers) {
+	left, ok := lists.Strike(r.Matches, numbers, number)
+	if !ok {
 		return api.Room{}, api.ErrMatch
 	}
 	y := copied(r)
-	y.Matches = slices.DeleteFunc(y.Matches, func(m api.Match) bool { return slices.Contains(numbers, m.Number) })
-	// No number is there twice: if as many matches went out, each one is that of a match.
-	if len(y.Matches)+len(numbers) != len(r.Matches) {
-		return api.Room{}, api.ErrMatch
-	}
+	y.Matches = left
 	return y, api.OK
 }
 
@@ -48,7 +46,7 @@ func Add(r api.Room, x api.Box) (api.Room, api.Errno) {
 		return api.Room{}, api.ErrFull
 	}
 	y := copied(r)
-	y.Boxes = insert(y.Boxes, x, func(b api.Box) bool { return b.Id >= x.Id })
+	y.Boxes = lists.Put(r.Boxes, x, id)
 	if Check(y) != api.OK {
 		return api.Room{}, api.ErrBox
 	}
@@ -59,13 +57,4 @@ func Add(r api.Room, x api.Box) (api.Room, api.Errno) {
 func copied(r api.Room) api.Room {
 	r.Ages, r.Boxes, r.Matches = slices.Clone(r.Ages), slices.Clone(r.Boxes), slices.Clone(r.Matches)
 	return r
-}
-
-// insert returns l with x before the first one that is after it.
-func insert[T any](l []T, x T, after func(T) bool) []T {
-	at := slices.IndexFunc(l, after)
-	if at < 0 {
-		at = len(l)
-	}
-	return slices.Insert(l, at, x)
 }

@@ -5,6 +5,7 @@ import (
 	"slices"
 
 	"middling/api"
+	"middling/lists"
 )
 
 // place is a box in a month; the zero value is what has not yellowed at all.
@@ -77,7 +78,7 @@ rounds:
 			l[x.b] = min(l[x.b], l[x.a]-x.by.Lo)
 		}
 		for x := range c.bounds() {
-			if !within(x.by, l[x.a]-l[x.b]) {
+			if !lists.Within(x.by, l[x.a]-l[x.b]) {
 				continue rounds
 			}
 		}

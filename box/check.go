@@ -4,6 +4,7 @@ import (
 	"slices"
 
 	"middling/api"
+	"middling/lists"
 )
 
 // Check returns the error of a room (P1.1).
@@ -15,11 +16,11 @@ func Check(r api.Room) api.Errno {
 }
 
 func hasAges(r api.Room) bool {
-	if !within(api.Span{Lo: 1, Hi: api.MaxMonths}, r.Months) || !within(anyPoints(), r.Step) || len(r.Ages) != r.Months {
+	if !lists.Within(api.Span{Lo: 1, Hi: api.MaxMonths}, r.Months) || !lists.Within(anyPoints(), r.Step) || len(r.Ages) != r.Months {
 		return false
 	}
 	for _, s := range r.Ages {
-		if s.Lo > s.Hi || !within(anyPoints(), s.Lo, s.Hi) {
+		if s.Lo > s.Hi || !lists.Within(anyPoints(), s.Lo, s.Hi) {
 			return false
 		}
 	}
@@ -27,11 +28,11 @@ func hasAges(r api.Room) bool {
 }
 
 func hasValidBoxes(r api.Room) bool {
-	if len(r.Boxes) > api.MaxBoxes || !rising(ids(r)) {
+	if len(r.Boxes) > api.MaxBoxes || !lists.Rising(lists.Numbers(r.Boxes, id)) {
 		return false
 	}
 	for _, b := range r.Boxes {
-		if !within(anyMonth(r), b.Made) {
+		if !lists.Within(anyMonth(r), b.Made) {
 			return false
 		}
 	}
@@ -39,12 +40,12 @@ func hasValidBoxes(r api.Room) bool {
 }
 
 func hasValidMatches(r api.Room) bool {
-	if len(r.Matches) > api.MaxMatches || !rising(numbers(r)) {
+	if len(r.Matches) > api.MaxMatches || !lists.Rising(lists.Numbers(r.Matches, number)) {
 		return false
 	}
 	either := api.Span{Lo: -api.MaxPoints, Hi: api.MaxPoints}
 	for _, m := range r.Matches {
-		if m.A == m.B || m.By.Lo > m.By.Hi || !within(either, m.By.Lo, m.By.Hi) {
+		if m.A == m.B || m.By.Lo > m.By.Hi || !lists.Within(either, m.By.Lo, m.By.Hi) {
 			return false
 		}
 		if x := (about{boxes: []int{m.A, m.B}, months: []int{m.Month}}); !hasBoxes(r, x) || !areThere(r, x) {
@@ -54,47 +55,13 @@ func hasValidMatches(r api.Room) bool {
 	return true
 }
 
-// within reports whether numbers are in a span.
-func within(s api.Span, numbers ...int) bool {
-	for _, n := range numbers {
-		if n < s.Lo || n > s.Hi {
-			return false
-		}
-	}
-	return true
-}
-
-// rising reports whether numbers are in increasing order, no one twice, each from 1 to MaxId.
-func rising(l []int) bool {
-	last := 0
-	for _, n := range l {
-		if n <= last {
-			return false
-		}
-		last = n
-	}
-	return last <= api.MaxId
-}
-
 func anyPoints() api.Span { return api.Span{Lo: 0, Hi: api.MaxPoints} }
 
 func anyMonth(r api.Room) api.Span { return api.Span{Lo: 0, Hi: r.Months - 1} }
 
-func ids(r api.Room) []int {
-	var l []int
-	for _, b := range r.Boxes {
-		l = append(l, b.Id)
-	}
-	return l
-}
+func id(b api.Box) int { return b.Id }
 
-func numbers(r api.Room) []int {
-	var l []int
-	for _, m := range r.Matches {
-		l = append(l, m.Number)
-	}
-	return l
-}
+func number(m api.Match) int { return m.Number }
 
 // about is what a call is about: boxes, by their Ids, and months, if it has any.
 type about struct{ boxes, months []int }
@@ -129,7 +96,7 @@ func hasBoxes(r api.Room, x about) bool {
 func areThere(r api.Room, x about) bool {
 	for _, m := range x.months {
 		late := func(b api.Box) bool { return b.Made > m && slices.Contains(x.boxes, b.Id) }
-		if !within(anyMonth(r), m) || slices.ContainsFunc(r.Boxes, late) {
+		if !lists.Within(anyMonth(r), m) || slices.ContainsFunc(r.Boxes, late) {
 			return false
 		}
 	}

@@ -4,6 +4,7 @@ import (
 	"slices"
 
 	"middling/api"
+	"middling/lists"
 )
 
 // Why returns the fewest matches that prove a span (P1.6).
@@ -12,7 +13,7 @@ func Why(r api.Room, box, month int) ([]int, api.Errno) {
 	if e != api.OK {
 		return nil, e
 	}
-	l, _ := fewest(numbers(r), len(r.Matches), x.proves)
+	l, _ := lists.Fewest(lists.Numbers(r.Matches, number), len(r.Matches), x.proves)
 	return l, api.OK
 }
 
@@ -23,8 +24,8 @@ func Rests(r api.Room, box, month int) ([]int, api.Errno) {
 		return nil, e
 	}
 	var l []int
-	for i, n := range numbers(r) {
-		others := slices.Delete(numbers(r), i, i+1)
+	for i, n := range lists.Numbers(r.Matches, number) {
+		others := slices.Delete(lists.Numbers(r.Matches, number), i, i+1)
 		if !x.proves(others) {
 			l = append(l, n)
 		}
@@ -38,7 +39,7 @@ func Wrong(r api.Room) ([]int, api.Errno) {
 		return nil, e
 	}
 	c := draw(r)
-	l, ok := fewest(numbers(r), api.MaxFalse, func(out []int) bool {
+	l, ok := lists.Fewest(lists.Numbers(r.Matches, number), api.MaxFalse, func(out []int) bool {
 		return c.without(func(m api.Match) bool { return slices.Contains(out, m.Number) }).can()
 	})
 	if !ok {
@@ -68,28 +69,4 @@ func claimed(r api.Room, box, month int) (claim, api.Errno) {
 func (x claim) proves(l []int) bool {
 	alone := x.without(func(m api.Match) bool { return !slices.Contains(l, m.Number) })
 	return alone.yellow(x.at) == x.span
-}
-
-// fewest returns the first list that is right, of at most so many things of l: the shortest one, then by their order.
-func fewest[T any](l []T, most int, right func([]T) bool) ([]T, bool) {
-	for n := range min(most, len(l)) + 1 {
-		if x, ok := longer(nil, l, n, right); ok {
-			return x, true
-		}
-	}
-	return nil, false
-}
-
-// longer returns the first list that is right, of those that begin with head, and go on with n things of l.
-func longer[T any](head, l []T, n int, right func([]T) bool) ([]T, bool) {
-	if n == 0 {
-		return head, right(head)
-	}
-	for i := range len(l) - n + 1 {
-		next := append(slices.Clone(head), l[i])
-		if x, ok := longer(next, l[i+1:], n-1, right); ok {
-			return x, true
-		}
-	}
-	return nil, false
 }

@@ -1,0 +1,99 @@
+// Package lists contains what several layers need: numbers in spans, things in the order of their numbers, and the first of several things.
+package lists
+
+import (
+	"iter"
+	"slices"
+
+	"middling/api"
+)
+
+// Within reports whether numbers are in a span.
+func Within(s api.Span, numbers ...int) bool {
+	for _, n := range numbers {
+		if n < s.Lo || n > s.Hi {
+			return false
+		}
+	}
+	return true
+}
+
+// Rising reports whether numbers are in increasing order, no one twice, each from 1 to MaxId.
+func Rising(l []int) bool {
+	last := 0
+	for _, n := range l {
+		if n <= last {
+			return false
+		}
+		last = n
+	}
+	return last <= api.MaxId
+}
+
+// Numbers returns the number of each thing.
+func Numbers[T any](l []T, number func(T) int) []int {
+	var out []int
+	for _, x := range l {
+		out = append(out, number(x))
+	}
+	return out
+}
+
+// Put returns a new list, that has x before the first thing whose number is not less.
+func Put[T any](l []T, x T, number func(T) int) []T {
+	at := slices.IndexFunc(l, func(y T) bool { return number(y) >= number(x) })
+	if at < 0 {
+		at = len(l)
+	}
+	return slices.Insert(slices.Clone(l), at, x)
+}
+
+// Strike returns a new list without the things that have some numbers: false unless these are numbers of things, in increasing order, no one twice.
+func Strike[T any](l []T, numbers []int, number func(T) int) ([]T, bool) {
+	if !Rising(numbers) {
+		return nil, false
+	}
+	left := slices.DeleteFunc(slices.Clone(l), func(x T) bool { return slices.Contains(numbers, number(x)) })
+	// No number is there twice: if as many things went out, each number is that of a thing.
+	if len(left)+len(numbers) != len(l) {
+		return nil, false
+	}
+	return left, true
+}
+
+// Fewest returns the first list that is right, of at most so many things of l, in their order: the shortest one, then the one with the thing that comes before where they differ. What right is given is written over after it.
+func Fewest[T any](l []T, most int, right func([]T) bool) ([]T, bool) {
+	var tried []T
+	var longer func(from, more int) bool
+	longer = func(from, more int) bool {
+		if more == 0 {
+			return right(tried)
+		}
+		for i := from; i+more <= len(l); i++ {
+			tried = append(tried, l[i])
+			if longer(i+1, more-1) {
+				return true
+			}
+			tried = tried[:len(tried)-1]
+		}
+		return false
+	}
+	for n := range min(most, len(l)) + 1 {
+		if longer(0, n) {
+			return tried, true
+		}
+	}
+	return nil, false
+}
+
+// First returns the first one of several things by an order, which is below 0 if a comes before b: false if there is nothing.
+func First[T any](things iter.Seq[T], order func(a, b T) int) (T, bool) {
+	var first T
+	some := false
+	for x := range things {
+		if !some || order(x, first) < 0 {
+			first, some = x, true
+		}
+	}
+	return first, some
+}

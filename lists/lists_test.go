@@ -1,0 +1,132 @@
+package lists_test
+
+import (
+	"cmp"
+	"math"
+	"slices"
+	"testing"
+
+	"middling/api"
+	"middling/lists"
+)
+
+func ints(l ...int) []int { return l }
+
+func itself(n int) int { return n }
+
+func TestWithin(t *testing.T) {
+	for i, x := range []struct {
+		lo, hi int
+		l      []int
+		want   bool
+	}{
+		{1, 3, ints(1, 2, 3), true}, {1, 3, nil, true}, {1, 3, ints(1, 2, 4), false}, {1, 3, ints(0, 2), false}, {1, 3, ints(2, math.MinInt), false}, {1, 3, ints(math.MaxInt), false}, {2, 2, ints(2), true}, {3, 1, ints(2), false}, {3, 1, nil, true},
+	} {
+		if is := lists.Within(api.Span{Lo: x.lo, Hi: x.hi}, x.l...); is != x.want {
+			t.Error(i, is)
+		}
+	}
+}
+
+func TestRising(t *testing.T) {
+	for i, x := range []struct {
+		l    []int
+		want bool
+	}{
+		{nil, true}, {ints(1), true}, {ints(1, 2, 9999), true}, {ints(0), false}, {ints(-1, 2), false}, {ints(2, 2), false}, {ints(3, 2), false}, {ints(1, 10000), false}, {ints(math.MinInt), false}, {ints(1, math.MaxInt), false},
+	} {
+		if is := lists.Rising(x.l); is != x.want {
+			t.Error(i, is)
+		}
+	}
+}
+
+func TestNumbers(t *testing.T) {
+	if l := lists.Numbers([]string{"a", "", "abc"}, func(s string) int { return len(s) }); !slices.Equal(l, ints(1, 0, 3)) {
+		t.Error(l)
+	}
+}
+
+func TestPut(t *testing.T) {
+	l := append(make([]int, 0, 9), 3, 5, 7)
+	for i, x := range []struct {
+		n    int
+		want []int
+	}{{1, ints(1, 3, 5, 7)}, {4, ints(3, 4, 5, 7)}, {5, ints(3, 5, 5, 7)}, {9, ints(3, 5, 7, 9)}} {
+		if y := lists.Put(l, x.n, itself); !slices.Equal(y, x.want) {
+			t.Error(i, y)
+		}
+	}
+	if y := lists.Put([]string{"a", "bb", "ccc"}, "dd", func(s string) int { return len(s) }); !slices.Equal(y, []string{"a", "dd", "bb", "ccc"}) {
+		t.Error(y)
+	}
+	if y := lists.Put(nil, 4, itself); !slices.Equal(y, ints(4)) {
+		t.Error(y)
+	}
+	if !slices.Equal(l[:6], ints(3, 5, 7, 0, 0, 0)) {
+		t.Error(l[:6])
+	}
+}
+
+func TestStrike(t *testing.T) {
+	l := ints(3, 5, 7)
+	for i, x := range []struct {
+		out, want []int
+		ok        bool
+	}{
+		{nil, ints(3, 5, 7), true}, {ints(3), ints(5, 7), true}, {ints(3, 7), ints(5), true}, {ints(3, 5, 7), nil, true}, {ints(4), nil, false}, {ints(7, 3), nil, false}, {ints(5, 5), nil, false}, {ints(3, 5, 7, 9), nil, false}, {ints(0), nil, false},
+	} {
+		y, ok := lists.Strike(l, x.out, itself)
+		if !slices.Equal(y, x.want) || ok != x.ok {
+			t.Error(i, y, ok)
+		}
+		if len(y) > 0 {
+			y[0] = 99
+		}
+	}
+	if !slices.Equal(l, ints(3, 5, 7)) {
+		t.Error(l)
+	}
+}
+
+func TestFewest(t *testing.T) {
+	sum := func(want int) func([]int) bool {
+		return func(l []int) bool {
+			n := 0
+			for _, x := range l {
+				n += x
+			}
+			return n == want
+		}
+	}
+	l := ints(9, 2, 4, 3, 7, 6)
+	for i, x := range []struct {
+		sum, most int
+		want      []int
+		ok        bool
+	}{
+		{0, 6, nil, true}, {0, 0, nil, true}, {7, 6, ints(7), true}, {7, 0, nil, false}, {11, 6, ints(9, 2), true}, {13, 6, ints(9, 4), true}, {14, 6, ints(9, 2, 3), true}, {31, 6, l, true}, {31, 99, l, true}, {31, 5, nil, false}, {14, 2, nil, false}, {32, 6, nil, false},
+	} {
+		if y, ok := lists.Fewest(l, x.most, sum(x.sum)); !slices.Equal(y, x.want) || ok != x.ok {
+			t.Error(i, y, ok)
+		}
+	}
+	var tried [][]int
+	lists.Fewest(ints(1, 2, 3), 2, func(l []int) bool {
+		tried = append(tried, slices.Clone(l))
+		return false
+	})
+	if want := [][]int{nil, {1}, {2}, {3}, {1, 2}, {1, 3}, {2, 3}}; !slices.EqualFunc(tried, want, slices.Equal) {
+		t.Error(tried)
+	}
+}
+
+func TestFirst(t *testing.T) {
+	short := func(a, b string) int { return cmp.Compare(len(a), len(b)) }
+	if s, ok := lists.First(slices.Values([]string{"abc", "de", "fg", "hij"}), short); s != "de" || !ok {
+		t.Error(s, ok)
+	}
+	if s, ok := lists.First(slices.Values([]string(nil)), short); s != "" || ok {
+		t.Error(s, ok)
+	}
+}
