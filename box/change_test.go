@@ -7,6 +7,7 @@ import (
 
 	"middling/api"
 	"middling/box"
+	"middling/testhelp"
 )
 
 // P1.7: a match more.
@@ -88,9 +89,7 @@ func TestAdd(t *testing.T) {
 // roomy is a room whose lists have capacity behind their ends, in which nothing may be written.
 func roomy() api.Room {
 	r := example(first(), match(5, 3, 1, 2, 2, 9), match(7, 2, 2, 1, -9, 0))
-	r.Ages = append(make([]api.Span, 0, 20), r.Ages...)
-	r.Boxes = append(make([]api.Box, 0, 20), r.Boxes...)
-	r.Matches = append(make([]api.Match, 0, 20), r.Matches...)
+	r.Ages, r.Boxes, r.Matches = testhelp.Grown(r.Ages), testhelp.Grown(r.Boxes), testhelp.Grown(r.Matches)
 	return r
 }
 
@@ -126,18 +125,11 @@ func TestArgumentsStay(t *testing.T) {
 	}
 }
 
-// scribble writes over all memory of a room.
-func scribble(r api.Room) {
-	r = whole(r)
-	for i := range r.Ages {
-		r.Ages[i] = span(77, 77)
-	}
-	for i := range r.Boxes {
-		r.Boxes[i] = api.Box{Id: 77}
-	}
-	for i := range r.Matches {
-		r.Matches[i] = match(77, 7, 7, 7, 7, 7)
-	}
+// spoil writes over all memory of a room.
+func spoil(r api.Room) {
+	testhelp.Spoil(r.Ages, span(77, 77))
+	testhelp.Spoil(r.Boxes, api.Box{Id: 77})
+	testhelp.Spoil(r.Matches, match(77, 7, 7, 7, 7, 7))
 }
 
 // P1, R3: a result shares no memory with an argument, nor with another result.
@@ -149,20 +141,7 @@ func TestResultsAreNew(t *testing.T) {
 	c, _ := box.Strike(r, ints(7))
 	d, _ := box.Add(r, api.Box{Id: 3})
 	e, _ := box.Strike(d, nil)
-	rooms := []api.Room{a, b, c, d, e}
-	for i, x := range rooms {
-		var kept []api.Room
-		for _, y := range rooms[i+1:] {
-			kept = append(kept, copied(y))
-		}
-		scribble(x)
-		for k, y := range rooms[i+1:] {
-			if !same(y, kept[k]) {
-				t.Error(i, k, y)
-			}
-		}
-	}
-	if !same(whole(r), before) {
+	if !testhelp.Apart([]api.Room{a, b, c, d, e}, copied, same, spoil) || !same(whole(r), before) {
 		t.Error(whole(r))
 	}
 }

@@ -131,18 +131,3 @@ func trueRoom(c *rand.Rand, s size) api.Room {
 		}
 	}
 }
-
-// sets yields all sets of things from 0 to n - 1 in order: the smaller ones first, then as lists.
-func sets(n int) [][]int {
-	l := [][]int{nil}
-	for at := 0; at < len(l); at++ {
-		from := 0
-		if k := len(l[at]); k > 0 {
-			from = l[at][k-1] + 1
-		}
-		for i := from; i < n; i++ {
-			l = append(l, append(slices.Clone(l[at]), i))
-		}
-	}
-	return l
-}

@@ -8,6 +8,7 @@ import (
 
 	"middling/api"
 	"middling/box"
+	"middling/testhelp"
 )
 
 // eachTrue runs a test for each of some large rooms that have a truth.
@@ -138,10 +139,10 @@ func TestFewestProve(t *testing.T) {
 		if e != api.OK {
 			return false
 		}
-		for _, x := range sets(len(r.Matches)) {
-			alone, _ := box.Strike(r, outside(r, named(r, x)))
+		for _, x := range testhelp.Sets(len(r.Matches)) {
+			alone, _ := box.Strike(r, outside(r, testhelp.Chosen(numbers(r), x)))
 			if yellow(alone, b.Id, m) == yellow(r, b.Id, m) {
-				return slices.Equal(l, named(r, x))
+				return slices.Equal(l, testhelp.Chosen(numbers(r), x))
 			}
 		}
 		return false
@@ -170,10 +171,10 @@ func TestFewestAreFalse(t *testing.T) {
 		}
 		var want []int
 		found := false
-		for _, x := range sets(len(r.Matches)) {
-			y, _ := box.Strike(r, named(r, x))
+		for _, x := range testhelp.Sets(len(r.Matches)) {
+			y, _ := box.Strike(r, testhelp.Chosen(numbers(r), x))
 			if is, _ := box.Can(y); is && len(x) <= api.MaxFalse {
-				want, found = named(r, x), true
+				want, found = testhelp.Chosen(numbers(r), x), true
 				break
 			}
 		}

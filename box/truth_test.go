@@ -7,6 +7,7 @@ import (
 
 	"middling/api"
 	"middling/box"
+	"middling/testhelp"
 )
 
 // truth is what each box (by its index) has yellowed in each month, and which matches (by their indexes) are so, of a room without them.
@@ -87,25 +88,9 @@ func mask(l []int) int {
 func values(l []truth, f func(truth) int) []int {
 	var v []int
 	for _, x := range l {
-		if n := f(x); !slices.Contains(v, n) {
-			v = append(v, n)
-		}
+		v = append(v, f(x))
 	}
-	slices.Sort(v)
-	return v
-}
-
-// fills reports whether a span is just these numbers.
-func fills(s api.Span, v []int) bool {
-	return len(v) > 0 && v[0] == s.Lo && v[len(v)-1] == s.Hi && len(v) == s.Hi-s.Lo+1
-}
-
-func named(r api.Room, l []int) []int {
-	var k []int
-	for _, i := range l {
-		k = append(k, r.Matches[i].Number)
-	}
-	return k
+	return testhelp.Sorted(v)
 }
 
 // tried runs a test for each of many small rooms with all their truths.
@@ -157,7 +142,7 @@ func TestYellowByTruths(t *testing.T) {
 			for m := b.Made; m < r.Months; m++ {
 				v := values(l, func(x truth) int { return x.points[i][m] })
 				s, e := box.Yellow(r, b.Id, m)
-				ok = ok && fills(s, v) && e == api.OK
+				ok = ok && testhelp.Fills(s, v) && e == api.OK
 				for n := -1; n <= 6; n++ {
 					k, f := box.Known(r, b.Id, m, n)
 					ok = ok && k == knownOf(v, n) && f == api.OK
@@ -188,7 +173,7 @@ func TestDifferByTruths(t *testing.T) {
 					v := values(l, func(x truth) int { return x.points[i][m] - x.points[j][m] })
 					s, e := box.Differ(r, a.Id, b.Id, m)
 					k, f := box.Order(r, a.Id, b.Id, m)
-					ok = ok && fills(s, v) && e == api.OK && k == knownOf(v, 0) && f == api.OK
+					ok = ok && testhelp.Fills(s, v) && e == api.OK && k == knownOf(v, 0) && f == api.OK
 				}
 			}
 		}
@@ -316,9 +301,9 @@ func TestWhyByTruths(t *testing.T) {
 				}
 				whole := told(all(r))
 				var why, rests []int
-				for _, x := range sets(len(r.Matches)) {
+				for _, x := range testhelp.Sets(len(r.Matches)) {
 					if slices.Equal(told(mask(x)), whole) {
-						why = named(r, x)
+						why = testhelp.Chosen(numbers(r), x)
 						break
 					}
 				}
@@ -340,11 +325,11 @@ func TestWhyByTruths(t *testing.T) {
 func TestWrongByTruths(t *testing.T) {
 	counts := map[int]int{}
 	tried(t, 3000, func(r api.Room, l []truth) bool {
-		for _, x := range sets(len(r.Matches)) {
+		for _, x := range testhelp.Sets(len(r.Matches)) {
 			if len(x) <= api.MaxFalse && len(kept(l, all(r)&^mask(x))) > 0 {
 				counts[len(x)]++
 				k, e := box.Wrong(r)
-				return slices.Equal(k, named(r, x)) && e == api.OK
+				return slices.Equal(k, testhelp.Chosen(numbers(r), x)) && e == api.OK
 			}
 		}
 		counts[-1]++

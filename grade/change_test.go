@@ -7,6 +7,7 @@ import (
 
 	"middling/api"
 	"middling/grade"
+	"middling/testhelp"
 )
 
 func full(n int) api.Desk {
@@ -62,12 +63,10 @@ func TestStrike(t *testing.T) {
 // roomy is a desk whose lists have capacity behind their ends, in which nothing may be written.
 func roomy() api.Desk {
 	d := example(look(8, 3, 102, 3, 2, 6))
-	d.Bales, d.Classers, d.Looks = grown(d.Bales), grown(d.Classers), grown(d.Looks)
-	d.Room.Ages, d.Room.Boxes, d.Room.Matches = grown(d.Room.Ages), grown(d.Room.Boxes), grown(d.Room.Matches)
+	d.Bales, d.Classers, d.Looks = testhelp.Grown(d.Bales), testhelp.Grown(d.Classers), testhelp.Grown(d.Looks)
+	d.Room.Ages, d.Room.Boxes, d.Room.Matches = testhelp.Grown(d.Room.Ages), testhelp.Grown(d.Room.Boxes), testhelp.Grown(d.Room.Matches)
 	return d
 }
-
-func grown[T any](l []T) []T { return append(make([]T, 0, 20), l...) }
 
 func whole(d api.Desk) api.Desk {
 	d.Bales, d.Classers, d.Looks = d.Bales[:cap(d.Bales)], d.Classers[:cap(d.Classers)], d.Looks[:cap(d.Looks)]
@@ -99,21 +98,14 @@ func TestArgumentsStay(t *testing.T) {
 	}
 }
 
-func scribble[T any](l []T, x T) {
-	l = l[:cap(l)]
-	for i := range l {
-		l[i] = x
-	}
-}
-
 // spoil writes over all memory of a desk.
 func spoil(d api.Desk) {
-	scribble(d.Bales, 77)
-	scribble(d.Classers, 77)
-	scribble(d.Looks, look(77, 7, 7, 7, 7, 7))
-	scribble(d.Room.Ages, span(77, 77))
-	scribble(d.Room.Boxes, api.Box{Id: 77})
-	scribble(d.Room.Matches, api.Match{Number: 77})
+	testhelp.Spoil(d.Bales, 77)
+	testhelp.Spoil(d.Classers, 77)
+	testhelp.Spoil(d.Looks, look(77, 7, 7, 7, 7, 7))
+	testhelp.Spoil(d.Room.Ages, span(77, 77))
+	testhelp.Spoil(d.Room.Boxes, api.Box{Id: 77})
+	testhelp.Spoil(d.Room.Matches, api.Match{Number: 77})
 }
 
 // P1, R3: a result shares no memory with an argument, nor with another result.
@@ -124,20 +116,7 @@ func TestResultsAreNew(t *testing.T) {
 	b, _ := grade.Strike(d, nil)
 	c, _ := grade.Strike(d, ints(8))
 	e, _ := grade.Strike(b, nil)
-	desks := []api.Desk{a, b, c, e}
-	for i, x := range desks {
-		var kept []api.Desk
-		for _, y := range desks[i+1:] {
-			kept = append(kept, copied(y))
-		}
-		spoil(x)
-		for k, y := range desks[i+1:] {
-			if !same(y, kept[k]) {
-				t.Error(i, k, y)
-			}
-		}
-	}
-	if !same(whole(d), before) {
+	if !testhelp.Apart([]api.Desk{a, b, c, e}, copied, same, spoil) || !same(whole(d), before) {
 		t.Error(whole(d))
 	}
 	for _, list := range []func(api.Desk) ([]int, api.Errno){
@@ -146,7 +125,7 @@ func TestResultsAreNew(t *testing.T) {
 		func(d api.Desk) ([]int, api.Errno) { return grade.Why(d, 102) },
 	} {
 		l, _ := list(d)
-		scribble(l, 77)
+		testhelp.Spoil(l, 77)
 		if !same(whole(d), before) {
 			t.Error(l)
 		}

@@ -7,6 +7,7 @@ import (
 
 	"middling/api"
 	"middling/grade"
+	"middling/testhelp"
 )
 
 // asks are the arguments of a call.
@@ -22,23 +23,18 @@ type call struct {
 
 func none(l []int, e api.Errno) (bool, api.Errno) { return len(l) == 0, e }
 
-func nothing[T comparable](x T, e api.Errno) (bool, api.Errno) {
-	var zero T
-	return x == zero, e
-}
-
 func calls() []call {
 	return append([]call{
-		{"Bounds", 0, 0, true, false, true, false, func(d api.Desk, x asks) (bool, api.Errno) { return nothing(grade.Bounds(d, x.number)) }},
-		{"Points", 0, 1, false, false, true, true, func(d api.Desk, x asks) (bool, api.Errno) { return nothing(grade.Points(d, x.bale)) }},
-		{"Grades", 0, 1, false, false, true, true, func(d api.Desk, x asks) (bool, api.Errno) { return nothing(grade.Grades(d, x.bale)) }},
-		{"Better", 0, 2, false, false, true, true, func(d api.Desk, x asks) (bool, api.Errno) { return nothing(grade.Better(d, x.bale, x.second)) }},
-		{"Lean", 1, 0, false, false, true, true, func(d api.Desk, x asks) (bool, api.Errno) { return nothing(grade.Lean(d, x.classer)) }},
-		{"Differ", 2, 0, false, false, true, true, func(d api.Desk, x asks) (bool, api.Errno) { return nothing(grade.Differ(d, x.classer, x.other)) }},
-		{"Leans", 1, 0, false, false, true, true, func(d api.Desk, x asks) (bool, api.Errno) { return nothing(grade.Leans(d, x.classer)) }},
+		{"Bounds", 0, 0, true, false, true, false, func(d api.Desk, x asks) (bool, api.Errno) { return testhelp.Zero(grade.Bounds(d, x.number)) }},
+		{"Points", 0, 1, false, false, true, true, func(d api.Desk, x asks) (bool, api.Errno) { return testhelp.Zero(grade.Points(d, x.bale)) }},
+		{"Grades", 0, 1, false, false, true, true, func(d api.Desk, x asks) (bool, api.Errno) { return testhelp.Zero(grade.Grades(d, x.bale)) }},
+		{"Better", 0, 2, false, false, true, true, func(d api.Desk, x asks) (bool, api.Errno) { return testhelp.Zero(grade.Better(d, x.bale, x.second)) }},
+		{"Lean", 1, 0, false, false, true, true, func(d api.Desk, x asks) (bool, api.Errno) { return testhelp.Zero(grade.Lean(d, x.classer)) }},
+		{"Differ", 2, 0, false, false, true, true, func(d api.Desk, x asks) (bool, api.Errno) { return testhelp.Zero(grade.Differ(d, x.classer, x.other)) }},
+		{"Leans", 1, 0, false, false, true, true, func(d api.Desk, x asks) (bool, api.Errno) { return testhelp.Zero(grade.Leans(d, x.classer)) }},
 		{"Proof", 1, 0, false, false, true, true, func(d api.Desk, x asks) (bool, api.Errno) { return none(grade.Proof(d, x.classer)) }},
 		{"Says", 1, 1, false, true, true, true, func(d api.Desk, x asks) (bool, api.Errno) {
-			return nothing(grade.Says(d, x.classer, x.bale, x.month, x.box))
+			return testhelp.Zero(grade.Says(d, x.classer, x.bale, x.month, x.box))
 		}},
 		{"Why", 0, 1, false, false, true, true, func(d api.Desk, x asks) (bool, api.Errno) { return none(grade.Why(d, x.bale)) }},
 		{"Ask", 0, 0, false, true, true, true, func(d api.Desk, x asks) (bool, api.Errno) {
@@ -52,8 +48,8 @@ func calls() []call {
 func freeCalls() []call {
 	return []call{
 		{"Check", 0, 0, false, false, false, false, func(d api.Desk, x asks) (bool, api.Errno) { return true, grade.Check(d) }},
-		{"Can", 0, 0, false, false, false, false, func(d api.Desk, x asks) (bool, api.Errno) { return nothing(grade.Can(d)) }},
-		{"Decide", 0, 1, false, false, false, false, func(d api.Desk, x asks) (bool, api.Errno) { return nothing(grade.Decide(d, x.bale)) }},
+		{"Can", 0, 0, false, false, false, false, func(d api.Desk, x asks) (bool, api.Errno) { return testhelp.Zero(grade.Can(d)) }},
+		{"Decide", 0, 1, false, false, false, false, func(d api.Desk, x asks) (bool, api.Errno) { return testhelp.Zero(grade.Decide(d, x.bale)) }},
 		{"Third", 0, 0, false, false, false, false, func(d api.Desk, x asks) (bool, api.Errno) { return none(grade.Third(d)) }},
 		{"Wrong", 0, 0, false, false, true, false, func(d api.Desk, x asks) (bool, api.Errno) { return none(grade.Wrong(d)) }},
 		{"Put", 0, 0, false, false, false, false, func(d api.Desk, x asks) (bool, api.Errno) {

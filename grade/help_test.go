@@ -212,27 +212,3 @@ func trueDesk(c *rand.Rand, s size) (api.Desk, hidden) {
 		}
 	}
 }
-
-// sets returns all sets of numbers from 0 to n - 1 in order: the smaller ones first, then as lists.
-func sets(n int) [][]int {
-	l := [][]int{nil}
-	for at := 0; at < len(l); at++ {
-		from := 0
-		if k := len(l[at]); k > 0 {
-			from = l[at][k-1] + 1
-		}
-		for i := from; i < n; i++ {
-			l = append(l, append(slices.Clone(l[at]), i))
-		}
-	}
-	return l
-}
-
-// chosen returns the things of l that have these indexes.
-func chosen(l, indexes []int) []int {
-	var out []int
-	for _, i := range indexes {
-		out = append(out, l[i])
-	}
-	return out
-}

@@ -8,6 +8,7 @@ import (
 
 	"middling/api"
 	"middling/grade"
+	"middling/testhelp"
 )
 
 // eachTrue runs a test for each of some large desks that have a truth, and for one that is known.
@@ -123,8 +124,8 @@ func TestFewestBalesProve(t *testing.T) {
 			if (n == 0) != (e == api.ErrNone) {
 				return false
 			}
-			for _, x := range sets(len(d.Bales)) {
-				bales := chosen(d.Bales, x)
+			for _, x := range testhelp.Sets(len(d.Bales)) {
+				bales := testhelp.Chosen(d.Bales, x)
 				alone := without(d, func(x api.Look) bool { return !slices.Contains(bales, x.Bale) })
 				if m, _ := grade.Leans(alone, a); m == n {
 					lengths[len(x)]++
@@ -156,8 +157,8 @@ func TestFewestAreUnjust(t *testing.T) {
 			continue
 		}
 		want, found := []int(nil), false
-		for _, x := range sets(len(d.Looks)) {
-			out := chosen(numbers(d), x)
+		for _, x := range testhelp.Sets(len(d.Looks)) {
+			out := testhelp.Chosen(numbers(d), x)
 			if len(x) > api.MaxWrong {
 				break
 			}
@@ -279,8 +280,8 @@ func TestFewestLooksProve(t *testing.T) {
 		if e != api.OK {
 			return false
 		}
-		for _, x := range sets(len(d.Looks)) {
-			looks := chosen(numbers(d), x)
+		for _, x := range testhelp.Sets(len(d.Looks)) {
+			looks := testhelp.Chosen(numbers(d), x)
 			if points(without(d, func(x api.Look) bool { return !slices.Contains(looks, x.Number) }), b) == points(d, b) {
 				lengths[len(x)]++
 				return slices.Equal(l, looks)

@@ -1,29 +1,14 @@
 package grade
 
 import (
-	"iter"
 	"slices"
 	"testing"
 
 	"middling/api"
+	"middling/testhelp"
 )
 
-// endsAnywhere tests that a loop over things may end after any of them.
-func endsAnywhere[T comparable](t *testing.T, things iter.Seq[T]) {
-	all := slices.Collect(things)
-	for n := range all {
-		var l []T
-		for x := range things {
-			l = append(l, x)
-			if len(l) == n+1 {
-				break
-			}
-		}
-		if !slices.Equal(l, all[:n+1]) {
-			t.Error(n, l)
-		}
-	}
-}
+func equal[T comparable](a, b T) bool { return a == b }
 
 func TestLoopsEndAnywhere(t *testing.T) {
 	d := api.Desk{
@@ -34,8 +19,9 @@ func TestLoopsEndAnywhere(t *testing.T) {
 		Looks:    []api.Look{{Number: 1, Classer: 7, Bale: 4, Box: 1, Said: 5}, {Number: 2, Classer: 8, Bale: 3, Box: 1, Said: 2}},
 	}
 	v := lay(d).seen()
-	endsAnywhere(t, v.differences())
-	endsAnywhere(t, v.choices(api.Span{}))
+	if !testhelp.EndsAnywhere(v.differences(), equal) || !testhelp.EndsAnywhere(v.choices(api.Span{}), equal) {
+		t.Error(v)
+	}
 	if l := slices.Collect(v.differences()); len(l) != 6 {
 		t.Error(l)
 	}

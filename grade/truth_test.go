@@ -8,6 +8,7 @@ import (
 	"middling/api"
 	"middling/box"
 	"middling/grade"
+	"middling/testhelp"
 )
 
 // model is a small desk of which all truths are listed.
@@ -108,7 +109,7 @@ func pointsIn(l []world, bale int) []int {
 	for _, w := range l {
 		v = append(v, w.points[bale]...)
 	}
-	return sorted(v)
+	return testhelp.Sorted(v)
 }
 
 func leansIn(l []world, classer int) []int {
@@ -116,17 +117,7 @@ func leansIn(l []world, classer int) []int {
 	for _, w := range l {
 		v = append(v, w.leans[classer])
 	}
-	return sorted(v)
-}
-
-func sorted(v []int) []int {
-	slices.Sort(v)
-	return slices.Compact(v)
-}
-
-// fills reports whether a span is just these numbers.
-func fills(s api.Span, v []int) bool {
-	return len(v) > 0 && v[0] == s.Lo && v[len(v)-1] == s.Hi && len(v) == s.Hi-s.Lo+1
+	return testhelp.Sorted(v)
 }
 
 // tried runs a test for each of many small desks with their models.
@@ -186,7 +177,7 @@ func TestBoundsByTruths(t *testing.T) {
 				}
 			}
 			s, e := grade.Bounds(m.Desk, x.Number)
-			ok = ok && (m.real && e == api.OK && fills(s, v) || !m.real && e == api.ErrBad)
+			ok = ok && (m.real && e == api.OK && testhelp.Fills(s, v) || !m.real && e == api.ErrBad)
 		}
 		return ok
 	})
@@ -204,7 +195,7 @@ func TestPointsByTruths(t *testing.T) {
 			}
 			s, e := grade.Points(m.Desk, b)
 			g, f := grade.Grades(m.Desk, b)
-			ok = ok && fills(s, v) && e == api.OK && fills(g, sorted(grades)) && f == api.OK
+			ok = ok && testhelp.Fills(s, v) && e == api.OK && testhelp.Fills(g, testhelp.Sorted(grades)) && f == api.OK
 		}
 		return ok
 	})
@@ -251,14 +242,14 @@ func TestLeanByTruths(t *testing.T) {
 			s, e := grade.Lean(m.Desk, a)
 			n, f := grade.Leans(m.Desk, a)
 			sides[n]++
-			ok = ok && fills(s, v) && e == api.OK && n == side(v) && f == api.OK
+			ok = ok && testhelp.Fills(s, v) && e == api.OK && n == side(v) && f == api.OK
 			for j, b := range m.Classers {
 				var v []int
 				for _, w := range l {
 					v = append(v, w.leans[i]-w.leans[j])
 				}
 				s, e := grade.Differ(m.Desk, a, b)
-				ok = ok && fills(s, sorted(v)) && e == api.OK
+				ok = ok && testhelp.Fills(s, testhelp.Sorted(v)) && e == api.OK
 			}
 		}
 		return ok
@@ -291,8 +282,8 @@ func TestProofByTruths(t *testing.T) {
 				ok = ok && len(k) == 0 && e == api.ErrNone
 				continue
 			}
-			for _, x := range sets(len(m.Bales)) {
-				bales := chosen(m.Bales, x)
+			for _, x := range testhelp.Sets(len(m.Bales)) {
+				bales := testhelp.Chosen(m.Bales, x)
 				looks := slices.DeleteFunc(m.all(), func(i int) bool { return !slices.Contains(bales, m.Looks[i].Bale) })
 				if side(leansIn(m.worlds(looks), i)) == want {
 					lengths[len(x)]++
@@ -318,7 +309,7 @@ func saidIn(l []world, classer, bale int, yellow api.Span) []int {
 			}
 		}
 	}
-	return sorted(v)
+	return testhelp.Sorted(v)
 }
 
 // places returns each month with each box that is there.
@@ -341,7 +332,7 @@ func TestSaysByTruths(t *testing.T) {
 			for i, a := range m.Classers {
 				for j, b := range m.Bales {
 					g, e := grade.Says(m.Desk, a, b, p[0], p[1])
-					ok = ok && fills(g, saidIn(l, i, j, s)) && e == api.OK
+					ok = ok && testhelp.Fills(g, saidIn(l, i, j, s)) && e == api.OK
 				}
 			}
 		}
@@ -405,10 +396,10 @@ func TestWhyByTruths(t *testing.T) {
 		for i, b := range m.Bales {
 			want := pointsIn(l, i)
 			k, e := grade.Why(m.Desk, b)
-			for _, x := range sets(len(m.Looks)) {
+			for _, x := range testhelp.Sets(len(m.Looks)) {
 				if slices.Equal(pointsIn(m.worlds(x), i), want) {
 					lengths[len(x)]++
-					ok = ok && slices.Equal(k, chosen(numbers(m.Desk), x)) && e == api.OK
+					ok = ok && slices.Equal(k, testhelp.Chosen(numbers(m.Desk), x)) && e == api.OK
 					break
 				}
 			}
@@ -470,10 +461,10 @@ func TestWrongByTruths(t *testing.T) {
 			counts[-2]++
 			return len(l) == 0 && e == api.ErrBad
 		}
-		for _, x := range sets(len(m.Looks)) {
+		for _, x := range testhelp.Sets(len(m.Looks)) {
 			if len(x) <= api.MaxWrong && len(m.worlds(m.others(x))) > 0 {
 				counts[len(x)]++
-				return slices.Equal(l, chosen(numbers(m.Desk), x)) && e == api.OK
+				return slices.Equal(l, testhelp.Chosen(numbers(m.Desk), x)) && e == api.OK
 			}
 		}
 		counts[-1]++

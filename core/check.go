@@ -1,0 +1,107 @@
+package core
+
+import (
+	"slices"
+
+	"middling/api"
+	"middling/lists"
+)
+
+// Check returns the error of a bale (P3.1).
+func Check(b api.Bale) api.Errno {
+	if !lists.Within(api.Span{Lo: 1, Hi: api.MaxId}, b.Id) || !lists.Within(api.Span{Lo: 1, Hi: api.MaxLayers}, b.Layers) || !isPart(b.Dry, 1, api.MaxPounds) || !hasValidDraws(b) || !hasValidWeighs(b) {
+		return api.ErrBale
+	}
+	return api.OK
+}
+
+func hasValidDraws(b api.Bale) bool {
+	if len(b.Draws) > api.MaxDraws || !lists.Rising(lists.Numbers(b.Draws, numberOfDraw)) {
+		return false
+	}
+	return !slices.ContainsFunc(b.Draws, func(x api.Draw) bool {
+		return !areLayers(b, x.Layer) || !isPart(x.Grade, 1, api.MaxGrade)
+	})
+}
+
+func hasValidWeighs(b api.Bale) bool {
+	if len(b.Weighs) > api.MaxWeighs || !lists.Rising(lists.Numbers(b.Weighs, numberOfWeigh)) {
+		return false
+	}
+	return !slices.ContainsFunc(b.Weighs, func(x api.Weigh) bool {
+		return !lists.Within(api.Span{Lo: 1, Hi: 2 * api.MaxPounds}, x.Pounds) || !isPart(x.Damp, 0, api.MaxDamp)
+	})
+}
+
+// isPart reports whether a span has numbers, all from least to most.
+func isPart(s api.Span, least, most int) bool {
+	return s.Lo <= s.Hi && lists.Within(api.Span{Lo: least, Hi: most}, s.Lo, s.Hi)
+}
+
+func areLayers(b api.Bale, at ...int) bool {
+	return lists.Within(api.Span{Lo: 0, Hi: b.Layers - 1}, at...)
+}
+
+func numberOfDraw(x api.Draw) int { return x.Number }
+
+func numberOfWeigh(x api.Weigh) int { return x.Number }
+
+// about is what a call is about.
+type about struct{ layers, kinds, weighs, damps []int }
+
+// question is what a bale is asked, and the error if it is not so.
+type question struct {
+	so func(b api.Bale, x about) bool
+	e  api.Errno
+}
+
+// questions returns what a bale is asked, in order: each one relies on those before it.
+func questions() [6]question {
+	return [6]question{
+		{isValid, api.ErrBale},
+		{hasLayers, api.ErrLayer},
+		{areKinds, api.ErrKind},
+		{hasWeighings, api.ErrNone},
+		{areDamps, api.ErrDamp},
+		{hasTruth, api.ErrBad},
+	}
+}
+
+func isValid(b api.Bale, _ about) bool { return Check(b) == api.OK }
+
+func hasLayers(b api.Bale, x about) bool { return areLayers(b, x.layers...) }
+
+func areKinds(_ api.Bale, x about) bool {
+	return lists.Within(api.Span{Lo: api.KindPlain, Hi: api.KindMixed}, x.kinds...)
+}
+
+func hasWeighings(b api.Bale, x about) bool {
+	numbers := lists.Numbers(b.Weighs, numberOfWeigh)
+	return !slices.ContainsFunc(x.weighs, func(n int) bool { return !slices.Contains(numbers, n) })
+}
+
+func areDamps(_ api.Bale, x about) bool {
+	return lists.Within(api.Span{Lo: 0, Hi: api.MaxDamp}, x.damps...)
+}
+
+func hasTruth(b api.Bale, _ about) bool { return pressed(b).can() }
+
+// open returns the press of a bale that has a truth, or the first error of a call (P3.1).
+func open(b api.Bale, x about) (press, api.Errno) {
+	for _, q := range questions() {
+		if !q.so(b, x) {
+			return press{}, q.e
+		}
+	}
+	return pressed(b), api.OK
+}
+
+// told returns what is told of a bale that has a truth, or the first error of a call.
+func told[T any](b api.Bale, x about, tell func(press) T) (T, api.Errno) {
+	p, e := open(b, x)
+	if e != api.OK {
+		var none T
+		return none, e
+	}
+	return tell(p), api.OK
+}
