@@ -5,6 +5,7 @@ import (
 	"slices"
 
 	"middling/api"
+	"middling/lists"
 )
 
 // Can reports whether there is a truth (P1.2).
@@ -42,7 +43,7 @@ func Known(r api.Room, box, month, points int) (uint8, api.Errno) {
 	if e != api.OK {
 		return 0, e
 	}
-	return known(s, points), api.OK
+	return lists.Known(s.Hi >= points, s.Lo < points), api.OK
 }
 
 // Order reports whether a box is as yellow as another one (P1.3).
@@ -51,18 +52,7 @@ func Order(r api.Room, a, b, month int) (uint8, api.Errno) {
 	if e != api.OK {
 		return 0, e
 	}
-	return known(s, 0), api.OK
-}
-
-// known returns what is known of whether a number within a span is a least one, or more.
-func known(s api.Span, least int) uint8 {
-	switch {
-	case s.Lo >= least:
-		return api.KnownYes
-	case s.Hi < least:
-		return api.KnownNo
-	}
-	return api.KnownOpen
+	return lists.Known(s.Hi >= 0, s.Lo < 0), api.OK
 }
 
 // Perhaps returns since when a box may have yellowed by so much (P1.4).

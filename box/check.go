@@ -20,7 +20,7 @@ func hasAges(r api.Room) bool {
 		return false
 	}
 	for _, s := range r.Ages {
-		if s.Lo > s.Hi || !lists.Within(anyPoints(), s.Lo, s.Hi) {
+		if !lists.Part(s, 0, api.MaxPoints) {
 			return false
 		}
 	}
@@ -43,9 +43,8 @@ func hasValidMatches(r api.Room) bool {
 	if len(r.Matches) > api.MaxMatches || !lists.Rising(lists.Numbers(r.Matches, number)) {
 		return false
 	}
-	either := api.Span{Lo: -api.MaxPoints, Hi: api.MaxPoints}
 	for _, m := range r.Matches {
-		if m.A == m.B || m.By.Lo > m.By.Hi || !lists.Within(either, m.By.Lo, m.By.Hi) {
+		if m.A == m.B || !lists.Part(m.By, -api.MaxPoints, api.MaxPoints) {
 			return false
 		}
 		if x := (about{boxes: []int{m.A, m.B}, months: []int{m.Month}}); !hasBoxes(r, x) || !areThere(r, x) {
@@ -66,19 +65,13 @@ func number(m api.Match) int { return m.Number }
 // about is what a call is about: boxes, by their Ids, and months, if it has any.
 type about struct{ boxes, months []int }
 
-// question is what a room is asked before it answers, and the error if it is not so.
-type question struct {
-	so func(r api.Room, x about) bool
-	e  api.Errno
-}
-
-// questions returns what a room is asked, in order: each one relies on those before it.
-func questions() [4]question {
-	return [4]question{
-		{isValid, api.ErrRoom},
-		{hasBoxes, api.ErrNone},
-		{areThere, api.ErrThere},
-		{hasTruth, api.ErrBad},
+// questions returns what a room is asked before it answers, in order: each one relies on those before it.
+func questions() [4]lists.Question[api.Room, about] {
+	return [4]lists.Question[api.Room, about]{
+		{So: isValid, E: api.ErrRoom},
+		{So: hasBoxes, E: api.ErrNone},
+		{So: areThere, E: api.ErrThere},
+		{So: hasTruth, E: api.ErrBad},
 	}
 }
 
@@ -107,10 +100,9 @@ func hasTruth(r api.Room, _ about) bool { return draw(r).can() }
 
 // open returns the chart of a room that has a truth, or the first error of a call (P1.1).
 func open(r api.Room, x about) (chart, api.Errno) {
-	for _, q := range questions() {
-		if !q.so(r, x) {
-			return chart{}, q.e
-		}
+	l := questions()
+	if e := lists.Asked(r, x, l[:]...); e != api.OK {
+		return chart{}, e
 	}
 	return draw(r), api.OK
 }

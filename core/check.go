@@ -9,7 +9,7 @@ import (
 
 // Check returns the error of a bale (P3.1).
 func Check(b api.Bale) api.Errno {
-	if !lists.Within(api.Span{Lo: 1, Hi: api.MaxId}, b.Id) || !lists.Within(api.Span{Lo: 1, Hi: api.MaxLayers}, b.Layers) || !isPart(b.Dry, 1, api.MaxPounds) || !hasValidDraws(b) || !hasValidWeighs(b) {
+	if !lists.Within(api.Span{Lo: 1, Hi: api.MaxId}, b.Id) || !lists.Within(api.Span{Lo: 1, Hi: api.MaxLayers}, b.Layers) || !lists.Part(b.Dry, 1, api.MaxPounds) || !hasValidDraws(b) || !hasValidWeighs(b) {
 		return api.ErrBale
 	}
 	return api.OK
@@ -20,7 +20,7 @@ func hasValidDraws(b api.Bale) bool {
 		return false
 	}
 	return !slices.ContainsFunc(b.Draws, func(x api.Draw) bool {
-		return !areLayers(b, x.Layer) || !isPart(x.Grade, 1, api.MaxGrade)
+		return !areLayers(b, x.Layer) || !lists.Part(x.Grade, 1, api.MaxGrade)
 	})
 }
 
@@ -29,13 +29,8 @@ func hasValidWeighs(b api.Bale) bool {
 		return false
 	}
 	return !slices.ContainsFunc(b.Weighs, func(x api.Weigh) bool {
-		return !lists.Within(api.Span{Lo: 1, Hi: 2 * api.MaxPounds}, x.Pounds) || !isPart(x.Damp, 0, api.MaxDamp)
+		return !lists.Within(api.Span{Lo: 1, Hi: 2 * api.MaxPounds}, x.Pounds) || !lists.Part(x.Damp, 0, api.MaxDamp)
 	})
-}
-
-// isPart reports whether a span has numbers, all from least to most.
-func isPart(s api.Span, least, most int) bool {
-	return s.Lo <= s.Hi && lists.Within(api.Span{Lo: least, Hi: most}, s.Lo, s.Hi)
 }
 
 func areLayers(b api.Bale, at ...int) bool {
@@ -49,21 +44,15 @@ func numberOfWeigh(x api.Weigh) int { return x.Number }
 // about is what a call is about.
 type about struct{ layers, kinds, weighs, damps []int }
 
-// question is what a bale is asked, and the error if it is not so.
-type question struct {
-	so func(b api.Bale, x about) bool
-	e  api.Errno
-}
-
 // questions returns what a bale is asked, in order: each one relies on those before it.
-func questions() [6]question {
-	return [6]question{
-		{isValid, api.ErrBale},
-		{hasLayers, api.ErrLayer},
-		{areKinds, api.ErrKind},
-		{hasWeighings, api.ErrNone},
-		{areDamps, api.ErrDamp},
-		{hasTruth, api.ErrBad},
+func questions() [6]lists.Question[api.Bale, about] {
+	return [6]lists.Question[api.Bale, about]{
+		{So: isValid, E: api.ErrBale},
+		{So: hasLayers, E: api.ErrLayer},
+		{So: areKinds, E: api.ErrKind},
+		{So: hasWeighings, E: api.ErrNone},
+		{So: areDamps, E: api.ErrDamp},
+		{So: hasTruth, E: api.ErrBad},
 	}
 }
 
@@ -88,10 +77,9 @@ func hasTruth(b api.Bale, _ about) bool { return pressed(b).can() }
 
 // open returns the press of a bale that has a truth, or the first error of a call (P3.1).
 func open(b api.Bale, x about) (press, api.Errno) {
-	for _, q := range questions() {
-		if !q.so(b, x) {
-			return press{}, q.e
-		}
+	l := questions()
+	if e := lists.Asked(b, x, l[:]...); e != api.OK {
+		return press{}, e
 	}
 	return pressed(b), api.OK
 }

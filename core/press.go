@@ -5,6 +5,7 @@ import (
 	"slices"
 
 	"middling/api"
+	"middling/lists"
 )
 
 // press is a valid bale at work, with the grades that its draws leave each layer: Lo above Hi if they leave none.
@@ -78,18 +79,7 @@ func (p press) isOf(kind int) uint8 {
 	left := p.kinds()
 	is := left[kind] > 0
 	delete(left, kind)
-	return known(is, len(left) > 0)
-}
-
-// known tells what is known of something that is so in some truth, and that is not so in some truth.
-func known(so, not bool) uint8 {
-	switch {
-	case !not:
-		return api.KnownYes
-	case !so:
-		return api.KnownNo
-	}
-	return api.KnownOpen
+	return lists.Known(is, len(left) > 0)
 }
 
 // kindOf returns the kind of a bale by the grades of its layers.
@@ -178,5 +168,5 @@ func (p press) weighing(number int) api.Weigh {
 // wasDamper tells what is known of whether the bale was damper than so much at a weighing.
 func (p press) wasDamper(x api.Weigh, damp int) uint8 {
 	s := p.wet(x)
-	return known(s.Hi > damp, s.Lo <= damp)
+	return lists.Known(s.Hi > damp, s.Lo <= damp)
 }

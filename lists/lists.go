@@ -1,4 +1,4 @@
-// Package lists contains what several layers need: numbers in spans, things in the order of their numbers, and the first of several things.
+// Package lists contains what several layers need: numbers in spans, things in the order of their numbers, the first of several things, and questions in their order.
 package lists
 
 import (
@@ -16,6 +16,22 @@ func Within(s api.Span, numbers ...int) bool {
 		}
 	}
 	return true
+}
+
+// Part reports whether a span has numbers, all of them from least to most.
+func Part(s api.Span, least, most int) bool {
+	return s.Lo <= s.Hi && Within(api.Span{Lo: least, Hi: most}, s.Lo, s.Hi)
+}
+
+// Known tells what is known of something that can be so, or can not be so.
+func Known(so, not bool) uint8 {
+	switch {
+	case !not:
+		return api.KnownYes
+	case !so:
+		return api.KnownNo
+	}
+	return api.KnownOpen
 }
 
 // Rising reports whether numbers are in increasing order, no one twice, each from 1 to MaxId.
@@ -96,4 +112,20 @@ func First[T any](things iter.Seq[T], order func(a, b T) int) (T, bool) {
 		}
 	}
 	return first, some
+}
+
+// Question is what a thing is asked that a call works on, and the error if it is not so.
+type Question[T, A any] struct {
+	So func(thing T, about A) bool
+	E  api.Errno
+}
+
+// Asked returns the error of the first question of which it is not so.
+func Asked[T, A any](thing T, about A, questions ...Question[T, A]) api.Errno {
+	for _, q := range questions {
+		if !q.So(thing, about) {
+			return q.E
+		}
+	}
+	return api.OK
 }

@@ -28,6 +28,55 @@ func TestWithin(t *testing.T) {
 	}
 }
 
+func TestPart(t *testing.T) {
+	for i, x := range []struct {
+		lo, hi, least, most int
+		want                bool
+	}{
+		{1, 3, 1, 3, true}, {2, 2, 1, 3, true}, {2, 1, 1, 3, false}, {0, 2, 1, 3, false}, {2, 4, 1, 3, false}, {-3, -2, -3, 3, true}, {-4, 3, -3, 3, false}, {math.MinInt, 2, 1, 3, false}, {1, math.MaxInt, 1, 3, false}, {math.MaxInt, math.MinInt, 1, 3, false}, {5, 6, 1, 3, false}, {-1, 0, 1, 3, false},
+	} {
+		if is := lists.Part(api.Span{Lo: x.lo, Hi: x.hi}, x.least, x.most); is != x.want {
+			t.Error(i, is)
+		}
+	}
+}
+
+func TestKnown(t *testing.T) {
+	for i, x := range []struct {
+		so, not bool
+		want    uint8
+	}{{true, false, api.KnownYes}, {false, true, api.KnownNo}, {true, true, api.KnownOpen}} {
+		if k := lists.Known(x.so, x.not); k != x.want {
+			t.Error(i, k)
+		}
+	}
+}
+
+func TestAsked(t *testing.T) {
+	asked := 0
+	above := func(n, least int) bool {
+		asked++
+		return n > least
+	}
+	even := func(n, _ int) bool {
+		asked++
+		return n%2 == 0
+	}
+	l := []lists.Question[int, int]{{So: above, E: api.ErrArg}, {So: even, E: api.ErrBad}}
+	for i, x := range []struct {
+		n, least, asked int
+		want            api.Errno
+	}{{4, 3, 2, api.OK}, {5, 3, 2, api.ErrBad}, {4, 4, 1, api.ErrArg}, {3, 4, 1, api.ErrArg}} {
+		asked = 0
+		if e := lists.Asked(x.n, x.least, l...); e != x.want || asked != x.asked {
+			t.Error(i, e, asked)
+		}
+	}
+	if e := lists.Asked[int, int](1, 1); e != api.OK {
+		t.Error(e)
+	}
+}
+
 func TestRising(t *testing.T) {
 	for i, x := range []struct {
 		l    []int
