@@ -1,4 +1,4 @@
-// Package lists contains what several layers need: numbers in spans, things in the order of their numbers, the first of several things, and questions in their order.
+// Package lists contains what several layers need: numbers in spans, what is known of something, things in the order of their numbers, the first of several things, and questions in their order.
 package lists
 
 import (
