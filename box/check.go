@@ -78,12 +78,7 @@ func questions() [4]lists.Question[api.Room, about] {
 func isValid(r api.Room, _ about) bool { return Check(r) == api.OK }
 
 func hasBoxes(r api.Room, x about) bool {
-	for _, id := range x.boxes {
-		if !slices.ContainsFunc(r.Boxes, func(b api.Box) bool { return b.Id == id }) {
-			return false
-		}
-	}
-	return true
+	return lists.Among(lists.Numbers(r.Boxes, id), x.boxes)
 }
 
 func areThere(r api.Room, x about) bool {

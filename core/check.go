@@ -65,8 +65,7 @@ func areKinds(_ api.Bale, x about) bool {
 }
 
 func hasWeighings(b api.Bale, x about) bool {
-	numbers := lists.Numbers(b.Weighs, numberOfWeigh)
-	return !slices.ContainsFunc(x.weighs, func(n int) bool { return !slices.Contains(numbers, n) })
+	return lists.Among(lists.Numbers(b.Weighs, numberOfWeigh), x.weighs)
 }
 
 func areDamps(_ api.Bale, x about) bool {
@@ -87,9 +86,5 @@ func open(b api.Bale, x about) (press, api.Errno) {
 // told returns what is told of a bale that has a truth, or the first error of a call.
 func told[T any](b api.Bale, x about, tell func(press) T) (T, api.Errno) {
 	p, e := open(b, x)
-	if e != api.OK {
-		var none T
-		return none, e
-	}
-	return tell(p), api.OK
+	return lists.Told(p, e, tell)
 }

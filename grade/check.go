@@ -96,14 +96,14 @@ func asked(d api.Desk, x about) api.Errno {
 func notValid(d api.Desk, _ about) api.Errno { return Check(d) }
 
 func notOfDesk(d api.Desk, x about) api.Errno {
-	if !areAmong(d.Bales, x.bales) || !areAmong(d.Classers, x.classers) {
+	if !lists.Among(d.Bales, x.bales) || !lists.Among(d.Classers, x.classers) {
 		return api.ErrNone
 	}
 	return api.OK
 }
 
 func noLook(d api.Desk, x about) api.Errno {
-	if !areAmong(lists.Numbers(d.Looks, number), x.looks) {
+	if !lists.Among(lists.Numbers(d.Looks, number), x.looks) {
 		return api.ErrLook
 	}
 	return api.OK
@@ -132,11 +132,6 @@ func noTruth(d api.Desk, _ about) api.Errno {
 	return api.OK
 }
 
-// areAmong reports whether each one of some is one of all.
-func areAmong(all, some []int) bool {
-	return !slices.ContainsFunc(some, func(n int) bool { return !slices.Contains(all, n) })
-}
-
 // open returns the view of a desk that has a truth, or the first error of a call.
 func open(d api.Desk, x about) (view, api.Errno) {
 	x.need = trueDesk
@@ -149,9 +144,5 @@ func open(d api.Desk, x about) (view, api.Errno) {
 // told returns what is told of a desk that has a truth, or the first error of a call.
 func told[T any](d api.Desk, x about, tell func(view) T) (T, api.Errno) {
 	v, e := open(d, x)
-	if e != api.OK {
-		var none T
-		return none, e
-	}
-	return tell(v), api.OK
+	return lists.Told(v, e, tell)
 }

@@ -1,4 +1,4 @@
-// Package lists contains what several layers need: numbers in spans, what is known of something, things in the order of their numbers, the first of several things, and questions in their order.
+// Package lists contains what several layers need: numbers in spans and among others, what is known of something, things in the order of their numbers, the first of several things, questions in their order, and what is told after them.
 package lists
 
 import (
@@ -32,6 +32,11 @@ func Known(so, not bool) uint8 {
 		return api.KnownNo
 	}
 	return api.KnownOpen
+}
+
+// Among reports whether each one of some numbers is one of all.
+func Among(all, some []int) bool {
+	return !slices.ContainsFunc(some, func(n int) bool { return !slices.Contains(all, n) })
 }
 
 // Rising reports whether numbers are in increasing order, no one twice, each from 1 to MaxId.
@@ -128,4 +133,13 @@ func Asked[T, A any](thing T, about A, questions ...Question[T, A]) api.Errno {
 		}
 	}
 	return api.OK
+}
+
+// Told returns what is told of a thing at work, unless there is an error.
+func Told[T, R any](thing T, e api.Errno, tell func(T) R) (R, api.Errno) {
+	if e != api.OK {
+		var none R
+		return none, e
+	}
+	return tell(thing), api.OK
 }

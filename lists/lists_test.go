@@ -4,6 +4,7 @@ import (
 	"cmp"
 	"math"
 	"slices"
+	"strconv"
 	"testing"
 
 	"middling/api"
@@ -74,6 +75,33 @@ func TestAsked(t *testing.T) {
 	}
 	if e := lists.Asked[int, int](1, 1); e != api.OK {
 		t.Error(e)
+	}
+}
+
+func TestTold(t *testing.T) {
+	told := 0
+	double := func(n int) string {
+		told++
+		return strconv.Itoa(2 * n)
+	}
+	if s, e := lists.Told(21, api.OK, double); s != "42" || e != api.OK || told != 1 {
+		t.Error(s, e, told)
+	}
+	if s, e := lists.Told(21, api.ErrNone, double); s != "" || e != api.ErrNone || told != 1 {
+		t.Error(s, e, told)
+	}
+}
+
+func TestAmong(t *testing.T) {
+	for i, x := range []struct {
+		all, some []int
+		want      bool
+	}{
+		{nil, nil, true}, {ints(1, 3), nil, true}, {ints(1, 3), ints(3), true}, {ints(1, 3), ints(3, 1, 3), true}, {ints(1, 3), ints(2), false}, {ints(1, 3), ints(1, 3, 2), false}, {nil, ints(0), false}, {ints(1, 3), ints(math.MinInt), false},
+	} {
+		if is := lists.Among(x.all, x.some); is != x.want {
+			t.Error(i, is)
+		}
 	}
 }
 

@@ -132,9 +132,5 @@ func open(t api.Terms, x about) (offer, api.Errno) {
 // told returns what is told of valid terms, or the first error of a call.
 func told[T any](t api.Terms, x about, tell func(offer) T) (T, api.Errno) {
 	o, e := open(t, x)
-	if e != api.OK {
-		var none T
-		return none, e
-	}
-	return tell(o), api.OK
+	return lists.Told(o, e, tell)
 }
