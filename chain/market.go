@@ -179,6 +179,6 @@ func (m market) proof() []int {
 
 // span returns how many bales move by a sale in all closings by which as few move.
 func (m market) span(number int) api.Span {
-	s := m.Sales[slices.Index(lists.Numbers(m.Sales, numberOf), number)]
+	s := lists.Numbered(m.Sales, number, numberOf)
 	return api.Span{Lo: m.closed(but(s, 1)).moves[s], Hi: m.closed(but(s, -1)).moves[s]}
 }

@@ -162,7 +162,7 @@ func (p press) wet(x api.Weigh) api.Span {
 
 // weighing returns the one with a Number.
 func (p press) weighing(number int) api.Weigh {
-	return p.Weighs[slices.IndexFunc(p.Weighs, func(x api.Weigh) bool { return x.Number == number })]
+	return lists.Numbered(p.Weighs, number, numberOfWeigh)
 }
 
 // wasDamper tells what is known of whether the bale was damper than so much at a weighing.

@@ -1,4 +1,4 @@
-// Package lists contains what several layers need: numbers in spans and among others, what is known of something, things in the order of their numbers, the first of several things, questions in their order, and what is told after them.
+// Package lists contains what several layers need: numbers in spans and among others, what is known of something, things by their numbers and in the order of these, the first of several things, questions in their order, and what is told after them.
 package lists
 
 import (
@@ -58,6 +58,17 @@ func Numbers[T any](l []T, number func(T) int) []int {
 		out = append(out, number(x))
 	}
 	return out
+}
+
+// Numbered returns the first thing that has a number: the zero value if there is none.
+func Numbered[T any](l []T, n int, number func(T) int) T {
+	for _, x := range l {
+		if number(x) == n {
+			return x
+		}
+	}
+	var none T
+	return none
 }
 
 // Put returns a new list, that has x before the first thing whose number is not less.

@@ -124,6 +124,18 @@ func TestNumbers(t *testing.T) {
 	}
 }
 
+func TestNumbered(t *testing.T) {
+	l := []string{"a", "bb", "cc", "ddd"}
+	for i, x := range []struct {
+		n    int
+		want string
+	}{{1, "a"}, {2, "bb"}, {3, "ddd"}, {4, ""}, {0, ""}, {math.MinInt, ""}} {
+		if s := lists.Numbered(l, x.n, func(s string) int { return len(s) }); s != x.want {
+			t.Error(i, s)
+		}
+	}
+}
+
 func TestPut(t *testing.T) {
 	l := append(make([]int, 0, 9), 3, 5, 7)
 	for i, x := range []struct {
