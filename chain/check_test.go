@@ -27,28 +27,26 @@ type call struct {
 
 func noChain(c api.Chain, e api.Errno) (bool, api.Errno) { return same(c, api.Chain{}), e }
 
-func noList[T any](l []T, e api.Errno) (bool, api.Errno) { return len(l) == 0, e }
-
 func calls() []call {
 	return []call{
 		{"Check", "", func(c api.Chain, x asks) (bool, api.Errno) { return true, chain.Check(c) }},
-		{"Owed", "", func(c api.Chain, x asks) (bool, api.Errno) { return noList(chain.Owed(c)) }},
+		{"Owed", "", func(c api.Chain, x asks) (bool, api.Errno) { return testhelp.NoList(chain.Owed(c)) }},
 		{"Close", "", func(c api.Chain, x asks) (bool, api.Errno) {
 			l, n, e := chain.Close(c)
 			return len(l) == 0 && n == 0, e
 		}},
-		{"Proof", "", func(c api.Chain, x asks) (bool, api.Errno) { return noList(chain.Proof(c)) }},
+		{"Proof", "", func(c api.Chain, x asks) (bool, api.Errno) { return testhelp.NoList(chain.Proof(c)) }},
 		{"Range", "number", func(c api.Chain, x asks) (bool, api.Errno) { return testhelp.Zero(chain.Range(c, x.number)) }},
-		{"Passes", "", func(c api.Chain, x asks) (bool, api.Errno) { return noList(chain.Passes(c)) }},
-		{"Hands", "", func(c api.Chain, x asks) (bool, api.Errno) { return noList(chain.Hands(c)) }},
-		{"Pays", "price", func(c api.Chain, x asks) (bool, api.Errno) { return noList(chain.Pays(c, x.price)) }},
-		{"Loses", "house prices", func(c api.Chain, x asks) (bool, api.Errno) { return noList(chain.Loses(c, x.house, x.prices)) }},
+		{"Passes", "", func(c api.Chain, x asks) (bool, api.Errno) { return testhelp.NoList(chain.Passes(c)) }},
+		{"Hands", "", func(c api.Chain, x asks) (bool, api.Errno) { return testhelp.NoList(chain.Hands(c)) }},
+		{"Pays", "price", func(c api.Chain, x asks) (bool, api.Errno) { return testhelp.NoList(chain.Pays(c, x.price)) }},
+		{"Loses", "house prices", func(c api.Chain, x asks) (bool, api.Errno) { return testhelp.NoList(chain.Loses(c, x.house, x.prices)) }},
 		{"Worst", "prices any", func(c api.Chain, x asks) (bool, api.Errno) {
 			h, n, e := chain.Worst(c, x.prices)
 			return h == 0 && n == 0, e
 		}},
 		{"Adds", "sale", func(c api.Chain, x asks) (bool, api.Errno) { return testhelp.Zero(chain.Adds(c, x.sale)) }},
-		{"Way", "house to way", func(c api.Chain, x asks) (bool, api.Errno) { return noList(chain.Way(c, x.house, x.to)) }},
+		{"Way", "house to way", func(c api.Chain, x asks) (bool, api.Errno) { return testhelp.NoList(chain.Way(c, x.house, x.to)) }},
 		{"Put", "room sale", func(c api.Chain, x asks) (bool, api.Errno) { return noChain(chain.Put(c, x.sale)) }},
 		{"Strike", "numbers", func(c api.Chain, x asks) (bool, api.Errno) { return noChain(chain.Strike(c, x.numbers)) }},
 		{"Stop", "house", func(c api.Chain, x asks) (bool, api.Errno) { return noChain(chain.Stop(c, x.house)) }},

@@ -321,8 +321,8 @@ func TestFewestAreFalse(t *testing.T) {
 		s := large()
 		s.odd = c.Intn(60)
 		b, _ := anyBale(c, s)
-		draws, few := fewest(drawn(b), func(out []int) bool { return can(without(b, out, weighed(b))) })
-		weighs, too := fewest(weighed(b), func(out []int) bool { return can(without(b, drawn(b), out)) })
+		draws, few := testhelp.Fewest(drawn(b), api.MaxFalse, func(out []int) bool { return can(without(b, out, weighed(b))) })
+		weighs, too := testhelp.Fewest(weighed(b), api.MaxFalse, func(out []int) bool { return can(without(b, drawn(b), out)) })
 		want := api.OK
 		if !few || !too {
 			draws, weighs, want = nil, nil, api.ErrMany

@@ -98,17 +98,6 @@ func each[T any](l []T, tell func(T) []int) []int {
 	return testhelp.Sorted(v)
 }
 
-// knownBy tells what is known of something that is so in so many of all truths.
-func knownBy(so, all int) uint8 {
-	switch so {
-	case 0:
-		return api.KnownNo
-	case all:
-		return api.KnownYes
-	}
-	return api.KnownOpen
-}
-
 // tried runs a test for each of many small bales.
 func tried(t *testing.T, bales int, test func(b api.Bale) bool) {
 	c := rand.New(rand.NewSource(1))
@@ -177,7 +166,7 @@ func TestKindByTruths(t *testing.T) {
 			}
 			k, e := core.Kind(b, kind)
 			counts[k]++
-			ok = ok && k == knownBy(so, len(l)) && e == api.OK
+			ok = ok && k == testhelp.KnownBy(so, len(l)) && e == api.OK
 		}
 		return ok
 	})
@@ -294,7 +283,7 @@ func TestWeightByTruths(t *testing.T) {
 					}
 				}
 				counts[k]++
-				ok = ok && k == knownBy(damper, len(v)) && e == api.OK
+				ok = ok && k == testhelp.KnownBy(damper, len(v)) && e == api.OK
 			}
 		}
 		for damp := range api.MaxDamp + 1 {
@@ -349,25 +338,12 @@ func TestAsideByTruths(t *testing.T) {
 	}
 }
 
-// fewest returns the first of all sets of Numbers that is right, if one of at most MaxFalse is.
-func fewest(numbers []int, right func(out []int) bool) ([]int, bool) {
-	for _, x := range testhelp.Sets(len(numbers)) {
-		if len(x) > api.MaxFalse {
-			break
-		}
-		if out := testhelp.Chosen(numbers, x); right(out) {
-			return out, true
-		}
-	}
-	return nil, false
-}
-
 // P3.7, P3.16, N10: the fewest draws and weighings without which there is a truth.
 func TestWrongByTruths(t *testing.T) {
 	draws, weighs := map[int]int{}, map[int]int{}
 	tried(t, 1500, func(b api.Bale) bool {
-		l, few := fewest(drawn(b), func(out []int) bool { return len(graded(without(b, out, nil))) > 0 })
-		k, too := fewest(weighed(b), func(out []int) bool { return len(weights(without(b, nil, out))) > 0 })
+		l, few := testhelp.Fewest(drawn(b), api.MaxFalse, func(out []int) bool { return len(graded(without(b, out, nil))) > 0 })
+		k, too := testhelp.Fewest(weighed(b), api.MaxFalse, func(out []int) bool { return len(weights(without(b, nil, out))) > 0 })
 		x, y, e := core.Wrong(b)
 		if !few || !too {
 			draws[-1]++

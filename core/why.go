@@ -1,8 +1,6 @@
 package core
 
 import (
-	"slices"
-
 	"middling/api"
 	"middling/lists"
 )
@@ -81,7 +79,7 @@ func Wrong(b api.Bale) (draws, weighs []int, e api.Errno) {
 func falseDraws(b api.Bale) ([]int, bool) {
 	l, ok := lists.Fewest(b.Draws, api.MaxFalse, func(out []api.Draw) bool {
 		left := b
-		left.Draws = except(b.Draws, out)
+		left.Draws = lists.Except(b.Draws, out)
 		return pressed(left).hasGrades()
 	})
 	return lists.Numbers(l, numberOfDraw), ok
@@ -91,13 +89,8 @@ func falseDraws(b api.Bale) ([]int, bool) {
 func falseWeighs(b api.Bale) ([]int, bool) {
 	l, ok := lists.Fewest(b.Weighs, api.MaxFalse, func(out []api.Weigh) bool {
 		left := b
-		left.Weighs = except(b.Weighs, out)
+		left.Weighs = lists.Except(b.Weighs, out)
 		return pressed(left).hasWeight()
 	})
 	return lists.Numbers(l, numberOfWeigh), ok
-}
-
-// except returns a new list without some things.
-func except[T comparable](l, out []T) []T {
-	return slices.DeleteFunc(slices.Clone(l), func(x T) bool { return slices.Contains(out, x) })
 }

@@ -27,8 +27,6 @@ type call struct {
 
 func noYard(y api.Yard, e api.Errno) (bool, api.Errno) { return same(y, api.Yard{}), e }
 
-func noList(l []int, e api.Errno) (bool, api.Errno) { return len(l) == 0, e }
-
 func noValue(bales, risks, pence int, e api.Errno) (bool, api.Errno) {
 	return bales == 0 && risks == 0 && pence == 0, e
 }
@@ -38,7 +36,7 @@ func calls() []call {
 		{"Check", "", func(y api.Yard, x asks) (bool, api.Errno) { return true, deliver.Check(y) }},
 		{"Can", "ware deal", func(y api.Yard, x asks) (bool, api.Errno) { return testhelp.Zero(deliver.Can(y, x.ware, x.deal)) }},
 		{"Cost", "ware deal pair", func(y api.Yard, x asks) (bool, api.Errno) { return testhelp.Zero(deliver.Cost(y, x.ware, x.deal)) }},
-		{"Plan", "", func(y api.Yard, x asks) (bool, api.Errno) { return noList(deliver.Plan(y)) }},
+		{"Plan", "", func(y api.Yard, x asks) (bool, api.Errno) { return testhelp.NoList(deliver.Plan(y)) }},
 		{"Value", "", func(y api.Yard, x asks) (bool, api.Errno) { return noValue(deliver.Value(y)) }},
 		{"Prices", "", func(y api.Yard, x asks) (bool, api.Errno) {
 			l, k, e := deliver.Prices(y)
@@ -49,8 +47,8 @@ func calls() []call {
 			return len(l) == 0 && n == 0, e
 		}},
 		{"Without", "ware", func(y api.Yard, x asks) (bool, api.Errno) { return noValue(deliver.Without(y, x.ware)) }},
-		{"Spare", "", func(y api.Yard, x asks) (bool, api.Errno) { return noList(deliver.Spare(y)) }},
-		{"Sure", "", func(y api.Yard, x asks) (bool, api.Errno) { return noList(deliver.Sure(y)) }},
+		{"Spare", "", func(y api.Yard, x asks) (bool, api.Errno) { return testhelp.NoList(deliver.Spare(y)) }},
+		{"Sure", "", func(y api.Yard, x asks) (bool, api.Errno) { return testhelp.NoList(deliver.Sure(y)) }},
 		{"Judge", "plan", func(y api.Yard, x asks) (bool, api.Errno) { return noValue(deliver.Judge(y, x.plan)) }},
 		{"Worse", "plan", func(y api.Yard, x asks) (bool, api.Errno) { return testhelp.Zero(deliver.Worse(y, x.plan)) }},
 		{"Put", "put", func(y api.Yard, x asks) (bool, api.Errno) { return noYard(deliver.Put(y, x.put)) }},

@@ -1,4 +1,4 @@
-// Package lists contains what several layers need: numbers in spans and among others, what is known of something, things by their numbers and in the order of these, the first of several things, questions in their order, and what is told after them.
+// Package lists contains what several layers need: numbers in spans and among others, what is known of something, lists without some things, things by their numbers and in the order of these, the first of several things, questions in their order, and what is told after them.
 package lists
 
 import (
@@ -37,6 +37,11 @@ func Known(so, not bool) uint8 {
 // Among reports whether each one of some numbers is one of all.
 func Among(all, some []int) bool {
 	return !slices.ContainsFunc(some, func(n int) bool { return !slices.Contains(all, n) })
+}
+
+// Except returns a new list without some things.
+func Except[T comparable](l, out []T) []T {
+	return slices.DeleteFunc(slices.Clone(l), func(x T) bool { return slices.Contains(out, x) })
 }
 
 // Rising reports whether numbers are in increasing order, no one twice, each from 1 to MaxId.

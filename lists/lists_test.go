@@ -105,6 +105,24 @@ func TestAmong(t *testing.T) {
 	}
 }
 
+func TestExcept(t *testing.T) {
+	l := ints(3, 5, 3, 7)
+	for i, x := range []struct{ out, want []int }{
+		{nil, ints(3, 5, 3, 7)}, {ints(3), ints(5, 7)}, {ints(4, 7), ints(3, 5, 3)}, {ints(7, 5, 3), nil},
+	} {
+		y := lists.Except(l, x.out)
+		if !slices.Equal(y, x.want) {
+			t.Error(i, y)
+		}
+		if len(y) > 0 {
+			y[0] = 99
+		}
+	}
+	if !slices.Equal(l, ints(3, 5, 3, 7)) {
+		t.Error(l)
+	}
+}
+
 func TestRising(t *testing.T) {
 	for i, x := range []struct {
 		l    []int

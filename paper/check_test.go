@@ -28,14 +28,12 @@ type call struct {
 
 func noPapers(p api.Papers, e api.Errno) (bool, api.Errno) { return same(p, api.Papers{}), e }
 
-func noList[T any](l []T, e api.Errno) (bool, api.Errno) { return len(l) == 0, e }
-
 func calls() []call {
 	return []call{
 		{"Check", "", func(p api.Papers, x asks) (bool, api.Errno) { return true, paper.Check(p) }},
 		{"Can", "", func(p api.Papers, x asks) (bool, api.Errno) { return testhelp.Zero(paper.Can(p)) }},
-		{"Orders", "paper truth", func(p api.Papers, x asks) (bool, api.Errno) { return noList(paper.Orders(p, x.paper)) }},
-		{"Holder", "paper day truth", func(p api.Papers, x asks) (bool, api.Errno) { return noList(paper.Holder(p, x.paper, x.day)) }},
+		{"Orders", "paper truth", func(p api.Papers, x asks) (bool, api.Errno) { return testhelp.NoList(paper.Orders(p, x.paper)) }},
+		{"Holder", "paper day truth", func(p api.Papers, x asks) (bool, api.Errno) { return testhelp.NoList(paper.Holder(p, x.paper, x.day)) }},
 		{"Known", "paper day truth", func(p api.Papers, x asks) (bool, api.Errno) {
 			return testhelp.Zero(paper.Known(p, x.paper, x.house, x.day))
 		}},
@@ -44,11 +42,11 @@ func calls() []call {
 		{"Good", "pledge truth", func(p api.Papers, x asks) (bool, api.Errno) { return testhelp.Zero(paper.Good(p, x.pledge)) }},
 		{"Twice", "paper truth", func(p api.Papers, x asks) (bool, api.Errno) { return testhelp.Zero(paper.Twice(p, x.paper)) }},
 		{"Since", "paper truth twice", func(p api.Papers, x asks) (bool, api.Errno) { return testhelp.Zero(paper.Since(p, x.paper)) }},
-		{"Bank", "paper day truth", func(p api.Papers, x asks) (bool, api.Errno) { return noList(paper.Bank(p, x.paper, x.day)) }},
+		{"Bank", "paper day truth", func(p api.Papers, x asks) (bool, api.Errno) { return testhelp.NoList(paper.Bank(p, x.paper, x.day)) }},
 		{"Rank", "pledge other truth both", func(p api.Papers, x asks) (bool, api.Errno) {
 			return testhelp.Zero(paper.Rank(p, x.pledge, x.other))
 		}},
-		{"Wrong", "many", func(p api.Papers, x asks) (bool, api.Errno) { return noList(paper.Wrong(p)) }},
+		{"Wrong", "many", func(p api.Papers, x asks) (bool, api.Errno) { return testhelp.NoList(paper.Wrong(p)) }},
 		{"Put", "put", func(p api.Papers, x asks) (bool, api.Errno) { return noPapers(paper.Put(p, x.put)) }},
 		{"Lend", "lend", func(p api.Papers, x asks) (bool, api.Errno) { return noPapers(paper.Lend(p, x.lend)) }},
 		{"Issue", "issue", func(p api.Papers, x asks) (bool, api.Errno) { return noPapers(paper.Issue(p, x.issue)) }},

@@ -288,7 +288,7 @@ func TestFewestAreFalse(t *testing.T) {
 	s := large()
 	s.odd = 25
 	eachPapers(t, 500, s, func(p api.Papers, _ hidden, _ *rand.Rand) bool {
-		want, few := fewest(passes(p), func(out []int) bool { return can(without(p, out)) })
+		want, few := testhelp.Fewest(passes(p), api.MaxFalse, func(out []int) bool { return can(without(p, out)) })
 		l, e := paper.Wrong(p)
 		counts[e]++
 		if !few {

@@ -69,7 +69,7 @@ func (r register) hasWay(x api.Paper) bool {
 
 // spares reports whether there is a truth without some passes.
 func (r register) spares(out []api.Pass) bool {
-	r.Passes = slices.DeleteFunc(slices.Clone(r.Passes), func(x api.Pass) bool { return slices.Contains(out, x) })
+	r.Passes = lists.Except(r.Passes, out)
 	return r.can()
 }
 

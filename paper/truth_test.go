@@ -138,17 +138,6 @@ func (w words) each(x api.Paper, tell func(l way, holders []int) int) []int {
 	return testhelp.Sorted(v)
 }
 
-// knownBy tells what is known of something that is so in so many of all truths.
-func knownBy(so, all int) uint8 {
-	switch so {
-	case 0:
-		return api.KnownNo
-	case all:
-		return api.KnownYes
-	}
-	return api.KnownOpen
-}
-
 // tried runs a test for papers by chance that are small, or of which many passes are wrong.
 func tried(t *testing.T, n int, test func(w words) bool) {
 	for _, s := range []size{small(), untrue()} {
@@ -218,7 +207,7 @@ func TestHolderByWords(t *testing.T) {
 					}
 					k, e := paper.Known(w.Papers, x.Id, house, day)
 					counts[k]++
-					ok = ok && k == knownBy(n, len(w.ways[x.Id])) && e == api.OK
+					ok = ok && k == testhelp.KnownBy(n, len(w.ways[x.Id])) && e == api.OK
 				}
 			}
 		}
@@ -311,7 +300,7 @@ func TestGoodByWords(t *testing.T) {
 			}
 			k, e := paper.Good(w.Papers, x.Number)
 			counts[k]++
-			ok = ok && k == knownBy(so, all) && e == api.OK
+			ok = ok && k == testhelp.KnownBy(so, all) && e == api.OK
 		}
 		return ok
 	})
@@ -371,7 +360,7 @@ func TestTwiceByWords(t *testing.T) {
 			})
 			k, e := paper.Twice(w.Papers, x.Id)
 			counts[k]++
-			ok = ok && k == knownBy(so, all) && e == api.OK
+			ok = ok && k == testhelp.KnownBy(so, all) && e == api.OK
 			day, f := paper.Since(w.Papers, x.Id)
 			if so == 0 {
 				ok = ok && day == 0 && f == api.ErrNone
@@ -433,7 +422,7 @@ func TestRankByWords(t *testing.T) {
 					continue
 				}
 				counts[k]++
-				ok = ok && k == knownBy(so, all) && e == api.OK
+				ok = ok && k == testhelp.KnownBy(so, all) && e == api.OK
 			}
 		}
 		return ok
@@ -447,7 +436,7 @@ func TestRankByWords(t *testing.T) {
 func TestWrongByWords(t *testing.T) {
 	counts := map[int]int{}
 	tried(t, 1000, func(w words) bool {
-		want, few := fewest(passes(w.Papers), func(out []int) bool { return read(without(w.Papers, out)).can() })
+		want, few := testhelp.Fewest(passes(w.Papers), api.MaxFalse, func(out []int) bool { return read(without(w.Papers, out)).can() })
 		l, e := paper.Wrong(w.Papers)
 		if !few {
 			counts[-1]++
@@ -459,17 +448,4 @@ func TestWrongByWords(t *testing.T) {
 	if counts[-1] < 10 || counts[0] < 100 || counts[1] < 50 || counts[2] < 30 || counts[3] < 10 {
 		t.Error(counts)
 	}
-}
-
-// fewest returns the first of all sets of Numbers that is right, if one of at most MaxFalse is.
-func fewest(numbers []int, right func(out []int) bool) ([]int, bool) {
-	for _, x := range testhelp.Sets(len(numbers)) {
-		if len(x) > api.MaxFalse {
-			break
-		}
-		if out := testhelp.Chosen(numbers, x); right(out) {
-			return out, true
-		}
-	}
-	return nil, false
 }

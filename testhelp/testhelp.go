@@ -32,6 +32,30 @@ func Chosen[T any](l []T, indexes []int) []T {
 	return out
 }
 
+// Fewest returns the first of all sets of numbers that is right, by how many they are, then as lists: false if no one of at most so many is.
+func Fewest(numbers []int, most int, right func(out []int) bool) ([]int, bool) {
+	for _, x := range Sets(len(numbers)) {
+		if len(x) > most {
+			break
+		}
+		if out := Chosen(numbers, x); right(out) {
+			return out, true
+		}
+	}
+	return nil, false
+}
+
+// KnownBy tells what is known of something that is so in so many of all truths.
+func KnownBy(so, all int) uint8 {
+	switch so {
+	case 0:
+		return api.KnownNo
+	case all:
+		return api.KnownYes
+	}
+	return api.KnownOpen
+}
+
 // Sorted puts numbers in increasing order, each one once.
 func Sorted(v []int) []int {
 	slices.Sort(v)
@@ -48,6 +72,9 @@ func Zero[T comparable](x T, e api.Errno) (bool, api.Errno) {
 	var zero T
 	return x == zero, e
 }
+
+// NoList reports whether a list has nothing, and returns the error beside it.
+func NoList[T any](l []T, e api.Errno) (bool, api.Errno) { return len(l) == 0, e }
 
 // Grown returns a list with capacity behind its end, in which nothing may be written.
 func Grown[T any](l []T) []T { return append(make([]T, 0, len(l)+20), l...) }

@@ -21,6 +21,31 @@ func TestSets(t *testing.T) {
 	}
 }
 
+func TestFewest(t *testing.T) {
+	for i, x := range []struct {
+		sum, most int
+		want      []int
+		ok        bool
+	}{{0, 0, nil, true}, {5, 3, []int{5}, true}, {9, 3, []int{4, 5}, true}, {9, 1, nil, false}, {12, 3, []int{3, 4, 5}, true}, {13, 3, nil, false}} {
+		l, ok := testhelp.Fewest([]int{3, 4, 5}, x.most, func(out []int) bool {
+			n := 0
+			for _, k := range out {
+				n += k
+			}
+			return n == x.sum
+		})
+		if !slices.Equal(l, x.want) || ok != x.ok {
+			t.Error(i, l, ok)
+		}
+	}
+}
+
+func TestKnownBy(t *testing.T) {
+	if a, b, c := testhelp.KnownBy(0, 3), testhelp.KnownBy(2, 3), testhelp.KnownBy(3, 3); a != api.KnownNo || b != api.KnownOpen || c != api.KnownYes {
+		t.Error(a, b, c)
+	}
+}
+
 func TestFills(t *testing.T) {
 	s := api.Span{Lo: 2, Hi: 4}
 	for i, x := range []struct {
@@ -38,6 +63,15 @@ func TestZero(t *testing.T) {
 		t.Error(is, e)
 	}
 	if is, e := testhelp.Zero(7, api.OK); is || e != api.OK {
+		t.Error(is, e)
+	}
+}
+
+func TestNoList(t *testing.T) {
+	if is, e := testhelp.NoList([]int{}, api.ErrBad); !is || e != api.ErrBad {
+		t.Error(is, e)
+	}
+	if is, e := testhelp.NoList([]int{1}, api.OK); is || e != api.OK {
 		t.Error(is, e)
 	}
 }
