@@ -68,14 +68,7 @@ func Surely(r api.Room, box, points int) (int, api.Errno) {
 // since returns the first month in which what a box has yellowed is so.
 func since(r api.Room, box int, so func(api.Span) bool) (int, api.Errno) {
 	c, e := open(r, about{boxes: []int{box}})
-	if e != api.OK {
-		return 0, e
-	}
-	month, ok := c.first(box, so)
-	if !ok {
-		return 0, api.ErrNone
-	}
-	return month, api.OK
+	return lists.ToldIf(c, e, func(c chart) (int, bool) { return c.first(box, so) }, api.ErrNone)
 }
 
 // Due returns when boxes may be too yellow, and which (P1.5).

@@ -159,3 +159,16 @@ func Told[T, R any](thing T, e api.Errno, tell func(T) R) (R, api.Errno) {
 	}
 	return tell(thing), api.OK
 }
+
+// ToldIf returns what is told of a thing at work, unless there is an error: the last one if there is nothing to tell.
+func ToldIf[T, R any](thing T, e api.Errno, tell func(T) (R, bool), last api.Errno) (R, api.Errno) {
+	var none R
+	if e != api.OK {
+		return none, e
+	}
+	r, ok := tell(thing)
+	if !ok {
+		return none, last
+	}
+	return r, api.OK
+}

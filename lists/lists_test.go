@@ -92,6 +92,23 @@ func TestTold(t *testing.T) {
 	}
 }
 
+func TestToldIf(t *testing.T) {
+	half := func(n int) (string, bool) { return strconv.Itoa(n / 2), n%2 == 0 }
+	for i, x := range []struct {
+		n    int
+		e    api.Errno
+		want string
+		last api.Errno
+	}{{42, api.OK, "21", api.OK}, {43, api.OK, "", api.ErrMany}, {42, api.ErrNone, "", api.ErrNone}, {43, api.ErrNone, "", api.ErrNone}} {
+		if s, e := lists.ToldIf(x.n, x.e, half, api.ErrMany); s != x.want || e != x.last {
+			t.Error(i, s, e)
+		}
+	}
+	if _, e := lists.ToldIf(1, api.ErrNone, func(int) (int, bool) { t.Error("told beside an error"); return 0, true }, api.ErrMany); e != api.ErrNone {
+		t.Error(e)
+	}
+}
+
 func TestAmong(t *testing.T) {
 	for i, x := range []struct {
 		all, some []int

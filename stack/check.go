@@ -142,14 +142,6 @@ func told[T any](w api.Warehouse, x about, tell func(floor) T) (T, api.Errno) {
 
 // toldIf returns what is told of a valid warehouse, or the first error of a call: the last one if there is nothing to tell.
 func toldIf[T any](w api.Warehouse, x about, tell func(floor) (T, bool), last api.Errno) (T, api.Errno) {
-	var none T
 	f, e := open(w, x)
-	if e != api.OK {
-		return none, e
-	}
-	t, ok := tell(f)
-	if !ok {
-		return none, last
-	}
-	return t, api.OK
+	return lists.ToldIf(f, e, tell, last)
 }
